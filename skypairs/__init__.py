@@ -1,0 +1,1 @@
+"""Skypairs: two lists of lights paired, with slips, turns, tracks and blends."""
