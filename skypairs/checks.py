@@ -3,6 +3,7 @@
 from skypairs.errors import BadCount, BadLights, BadRule, BadSlip
 
 MOST_LIGHTS = 16
+MOST_GLOW = 99
 
 LIGHT_BOUNDS = ((-999, 999), (-999, 999), (0, 99))
 RULE_BOUNDS = ((0, 200), (0, 99), (0, 99))

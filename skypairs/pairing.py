@@ -17,7 +17,7 @@ def pairing(one, other, rule, *, slip=(0, 0)):
     """Tell the pairs of a best choice, its cost, and prices that show that it is best."""
     worths = asked_worths(one, other, rule, slip)
     pairs, prices = best_choice(worths, len(other))
-    return tuple(pairs), FULL_WORTH * len(pairs) - total_worth(worths, pairs), prices
+    return tuple(pairs), total_cost(worths, pairs), prices
 
 
 def settles(one, other, rule, pairs, prices, *, slip=(0, 0)):
@@ -89,6 +89,11 @@ def pair_worth(light, mate, rule):
 def total_worth(worths, pairs):
     """What the pairs are worth together."""
     return sum([worths[row][column] for row, column in pairs])
+
+
+def total_cost(worths, pairs):
+    """What the pairs cost together."""
+    return FULL_WORTH * len(pairs) - total_worth(worths, pairs)
 
 
 def possible_pairs(worths):

@@ -6,6 +6,8 @@ import inspect
 import unittest
 from pathlib import Path
 
+from skypairs.skies import Sky
+
 PACKAGE = Path(__file__).resolve().parent.parent / "skypairs"
 
 INTERFACE = {
@@ -19,7 +21,34 @@ INTERFACE = {
         ("turned", "(lights, turn)"),
         ("sought", "(one, other, rule, *, far=2, turns=(0,))"),
     ),
+    "tracks": (
+        ("tracks", "(epochs, *, least=3, dim=99)"),
+        ("chosen", "(epochs, *, least=3, dim=99)"),
+    ),
+    "blends": (
+        ("groups", "(lights, near)"),
+        ("blends", "(lights, near)"),
+        ("matched", "(coarse, fine, near, rule)"),
+    ),
+    "skies": (
+        ("Sky", "(one, other, rule)"),
+    ),
+    "notes": (
+        ("written", "(lists)"),
+        ("read", "(text)"),
+    ),
 }
+
+SKY_METHODS = (
+    ("lights", "(self)"),
+    ("pairs", "(self)"),
+    ("put", "(self, side, light)"),
+    ("drop", "(self, side, name)"),
+    ("move", "(self, side, name, light)"),
+    ("batch", "(self, deeds, *, keep=True)"),
+    ("told", "(self)"),
+    ("is_idle", "(self)"),
+)
 
 
 def texts():
@@ -39,6 +68,10 @@ class Package(unittest.TestCase):
                 function = getattr(module, name)
                 self.assertEqual(function.__module__, module.__name__)
                 self.assertEqual(str(inspect.signature(function)), signature)
+
+    def test_methods_stand_in_the_class_itself(self):
+        for name, signature in SKY_METHODS:
+            self.assertEqual(str(inspect.signature(vars(Sky)[name])), signature)
 
     def test_size_and_characters(self):
         for name, text in texts():

@@ -2,55 +2,12 @@
 
 import unittest
 
-from skypairs.errors import BadCount, BadLights, BadRule, BadSlip, SkyError
+from skypairs.errors import BadCount, BadRule, BadSlip
 from skypairs.finding import sought, turned
 from skypairs.pairing import likely, pairing, settles, sure
+from wrong_things import GOOD, NO_LIGHTS, NO_RULES, OTHER_KINDS, RULE, SIXTEEN, Refusing
 
-GOOD = ((0, 0, 0), (3, 4, 9))
-RULE = (5, 9, 1)
 EMPTY = ((), ())
-SIXTEEN = tuple((x, 0, x) for x in range(16))
-OTHER_KINDS = (None, True, False, 0, 1, -7, 0.5, 2.0, "", "abc", [], [0, 0, 0], [(0, 0, 0)], b"abc")
-
-NO_LIGHTS = [(thing, 0) for thing in OTHER_KINDS] + [
-    ((thing,), 0) for thing in OTHER_KINDS
-] + [
-    (((0, 0, 0), ()), 1),
-    (((0, 0),), 0),
-    (((0, 0, 0, 0),), 0),
-    (((1000, 0, 0),), 0),
-    (((-1000, 0, 0),), 0),
-    (((0, 1000, 0),), 0),
-    (((0, -1000, 0),), 0),
-    (((0, 0, 100),), 0),
-    (((0, 0, -1),), 0),
-    (((0, 0, 0), (999, -999, 99), (5, 1000, 1)), 2),
-    (((0, 0, 0), (1, 0, 0), (0, 0, 0)), 2),
-    (((0, 0, 0), (1, 0, 0), (1, 0, 7), (0, 0, 3)), 2),
-    (((True, 0, 0),), 0),
-    (((0, False, 0),), 0),
-    (((0, 0, True),), 0),
-    (((0, 0, 0), (1, False, 0)), 1),
-    (((0.0, 0, 0),), 0),
-    (((0, "0", 0),), 0),
-    (((0, 0, None),), 0),
-    (((0, 0, (0,)),), 0),
-    (((0, 0, [0]),), 0),
-    ((GOOD, GOOD), 0),
-    (SIXTEEN + ((0, 1, 0),), 16),
-    (SIXTEEN + ((0, 1, 0), (0, 2, 0), (0, 3, 0)), 16),
-    (SIXTEEN + (None,), 16),
-    (SIXTEEN + ((0, 0, 0),), 16),
-    (SIXTEEN[:4] + (None,) + SIXTEEN[5:] + ((0, 1, 0),), 4),
-    (SIXTEEN[:15] + ((3, 0, 50), (0, 1, 0)), 15),
-]
-
-NO_RULES = list(OTHER_KINDS) + [
-    (), (5,), (5, 9), (5, 9, 1, 0), [5, 9, 1],
-    (-1, 9, 1), (201, 9, 1), (5, -1, 1), (5, 100, 1), (5, 9, -1), (5, 9, 100),
-    (True, 9, 1), (5, True, 1), (5, 9, False),
-    (5.0, 9, 1), ("5", 9, 1), (5, None, 1), (5, 9, (1,)), (5, 9, [1]),
-]
 
 NO_SLIPS = list(OTHER_KINDS) + [
     (), (0,), (0, 0, 0), [0, 0],
@@ -73,18 +30,7 @@ PAIRERS = (pairing, asked_to_settle, sure, likely)
 DOORS = PAIRERS + (sought,)
 
 
-class Refusals(unittest.TestCase):
-    def refused(self, error, door, *things, **more):
-        with self.assertRaises(SkyError) as told:
-            door(*things, **more)
-        self.assertIs(type(told.exception), error)
-        return told.exception
-
-    def bad_lights(self, number, door, *things, **more):
-        told = self.refused(BadLights, door, *things, **more).number
-        self.assertEqual(told, number)
-        self.assertIs(type(told), int)
-
+class Refusals(Refusing, unittest.TestCase):
     def test_lights(self):
         for things, number in NO_LIGHTS:
             with self.subTest(things=things):
